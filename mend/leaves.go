@@ -6,44 +6,31 @@ import (
 	"garderobe/steps"
 	"garderobe/store"
 	"garderobe/super"
-	"garderobe/tree"
+	"garderobe/verdict"
 )
 
-// leaves are the blocks of a base that are summed, as they stand, or are to stand, and what is trusted of them.
-type leaves struct {
-	store.Base
-	blocks [][]byte // from the first one of the device on
-	epochs []uint64
-	tree   *tree.Tree
-}
+// leaves are the blocks of a base that are summed, as they stand, or are to stand.
+type leaves struct{ verdict.Case }
+
+// of are those of a base, none so far.
+func of(b store.Base) leaves { return leaves{verdict.Case{Base: b}} }
 
 // logs is how many blocks the log has.
 func logs(g api.Geo) int { return geom.Total(g) - geom.Leaves(g) }
 
-// sum makes the tree of the blocks.
-func (l *leaves) sum() api.Errno {
-	var sums []api.Digest
-	for k, data := range l.blocks {
-		sums = append(sums, tree.Sum(l.B, k, data))
-	}
-	t, e := tree.New(l.B, sums...)
-	l.tree = t
-	return e
-}
-
 // blank makes the blocks those of a store of noughts, sealed with the count that comes next.
 func (l *leaves) blank() api.Errno {
-	l.epochs = make([]uint64, geom.Sealed(l.G))
-	for k := range l.epochs {
-		l.epochs[k] = l.next()
+	l.Epochs = make([]uint64, geom.Sealed(l.G))
+	for k := range l.Epochs {
+		l.Epochs[k] = l.next()
 	}
-	return steps.Till(l.addSuper, l.addEpochs, l.addSealed, l.sum)
+	return steps.Till(l.addSuper, l.addEpochs, l.addSealed, l.Sum)
 }
 
 // add adds a block, if it could be made.
 func (l *leaves) add(data []byte, e api.Errno) api.Errno {
 	if e == api.OK {
-		l.blocks = append(l.blocks, data)
+		l.Blocks = append(l.Blocks, data)
 	}
 	return e
 }
@@ -54,7 +41,7 @@ func (l *leaves) addSuper() api.Errno { return l.add(super.Bytes(l.G)) }
 // addEpochs adds the blocks of the epochs.
 func (l *leaves) addEpochs() api.Errno {
 	for k := range geom.Epochs(l.G) {
-		if e := l.add(super.Block(l.G, k, l.epochs)); e != api.OK {
+		if e := l.add(super.Block(l.G, k, l.Epochs)); e != api.OK {
 			return e
 		}
 	}
@@ -63,7 +50,7 @@ func (l *leaves) addEpochs() api.Errno {
 
 // addSealed adds blocks of noughts, sealed with their epochs.
 func (l *leaves) addSealed() api.Errno {
-	for k, epoch := range l.epochs {
+	for k, epoch := range l.Epochs {
 		if e := l.add(l.S.Blank(epoch, k)); e != api.OK {
 			return e
 		}
@@ -73,7 +60,7 @@ func (l *leaves) addSealed() api.Errno {
 
 // put puts all blocks, from the first one on.
 func (l *leaves) put() api.Errno {
-	for k, data := range l.blocks {
+	for k, data := range l.Blocks {
 		if e := store.Put(l.Base, k, data); e != api.OK {
 			return e
 		}
@@ -91,4 +78,4 @@ func (l *leaves) next() uint64 { return l.T.Read().Count + 1 }
 func (l *leaves) keep() api.Errno { return l.T.Set(api.Reg{Count: l.next(), Root: l.T.Read().Root}) }
 
 // count sets the register to the next count, and the root of the tree.
-func (l *leaves) count() api.Errno { return l.T.Set(api.Reg{Count: l.next(), Root: l.tree.Root()}) }
+func (l *leaves) count() api.Errno { return l.T.Set(api.Reg{Count: l.next(), Root: l.Tree.Root()}) }
