@@ -1,4 +1,5 @@
-// Package verdict tells what is found of the blocks of a base, once they are loaded. No layer is named for it: mend and audit share it.
+// Package verdict loads the blocks of a base, sums those that are leaves, and tells what is found of them. No layer is named
+// for it: the layers that look at a base as it stands share it.
 package verdict
 
 import (
